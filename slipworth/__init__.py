@@ -1,0 +1,1 @@
+"""Slipworth: which words misspelt texts mean."""

@@ -1,0 +1,54 @@
+"""The interface: each name stands in its file, with its arguments."""
+
+import doctest
+import inspect
+import pathlib
+import unittest
+
+from slipworth import errors, machines, prices
+
+FUNCTIONS = {
+    machines: {
+        "is_machine": ["value"],
+        "tells": ["machine", "word"],
+        "first_words": ["machine", "limit"],
+        "least_machine": ["machine"],
+        "machine_of": ["words"],
+    },
+    prices: {
+        "is_table": ["value"],
+        "price": ["table", "word", "text"],
+        "cut": ["table", "word", "text"],
+        "typed": ["table", "word", "most"],
+    },
+}
+ERRORS = {
+    "BadValue": ["at"], "BadText": ["at"], "BadPaper": ["at"], "NotMeant": ["text"], "NoWord": ["word"],
+    "Mixed": ["word", "text"]}
+
+
+class Interface(unittest.TestCase):
+    def test_functions(self):
+        for module, functions in FUNCTIONS.items():
+            for name, arguments in functions.items():
+                function = getattr(module, name)
+                self.assertTrue(inspect.isfunction(function))
+                self.assertEqual(function.__module__, module.__name__)
+                parameters = inspect.signature(function).parameters
+                self.assertEqual(list(parameters), arguments)
+                for parameter in parameters.values():
+                    self.assertEqual(parameter.kind, parameter.POSITIONAL_OR_KEYWORD)
+                    self.assertIs(parameter.default, parameter.empty)
+
+    def test_errors(self):
+        for name, arguments in ERRORS.items():
+            self.assertEqual(list(inspect.signature(getattr(errors, name)).parameters), arguments)
+
+    def test_what_the_readme_shows(self):
+        readme = pathlib.Path(__file__).resolve().parent.parent / "README.md"
+        found = doctest.testfile(str(readme), module_relative=False)
+        self.assertEqual((found.failed, found.attempted > 5), (0, True))
+
+
+if __name__ == "__main__":
+    unittest.main()

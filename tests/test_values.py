@@ -1,0 +1,183 @@
+"""[13]: values and arguments, for every function that has landed."""
+
+import itertools
+import unittest
+
+from slipworth.errors import TooMany
+from slipworth.machines import first_words, is_machine, least_machine, machine_of, tells
+from slipworth.prices import cut, is_table, price, typed
+from tests.helper import NO_WORDS, NOTHINGS, as_lists, forms, is_plain, nested, no_integers, refused_at, run
+
+MACHINE = (3, (2,), ((0, "a", 1), (1, "b", 2), (2, "a", 2)))
+TABLE = (("", "a", 2), ("a", "", 2), ("a", "b", 4), ("ab", "ba", 1))
+
+NO_MACHINES = NOTHINGS + (
+    0, 3, "", "abc", (), [], (1, ()), (1, (), (), ()), [MACHINE], TABLE,
+    # the number of the states
+    (0, (), ()), (9, (), ()), (-1, (), ()), (True, (), ()), (False, (), ()), (None, (), ()), ("1", (), ()),
+    ((1,), (), ()), (10 ** 30, (), ()),
+    # the ends
+    (1, 0, ()), (1, None, ()), (1, "", ()), (1, "0", ()), (2, (True,), ()), (2, (False,), ()), (2, (0, True), ()),
+    (1, (1,), ()), (1, (-1,), ()), (8, (8,), ()), (2, (1, 0), ()), (2, (0, 0), ()), (2, ((0,),), ()),
+    (2, ("0",), ()), (2, (None,), ()), (2, nested(18), ()),
+    # the moves
+    (1, (), 0), (1, (), None), (1, (), ""), (1, (), "0a0"), (1, (), (0, "a", 0)), (1, (), ((0, "a"),)),
+    (1, (), ((0, "a", 0, 0),)), (1, (), ("0a0",)), (1, (), (None,)), (1, (), ((1, "a", 0),)), (1, (), ((0, "a", 1),)),
+    (1, (), ((-1, "a", 0),)), (1, (), ((0, "a", -1),)), (2, (), ((True, "a", 0),)), (2, (), ((0, "a", True),)),
+    (2, (), ((False, "a", 0),)), (1, (), ((0, "", 0),)), (1, (), ((0, "ab", 0),)), (1, (), ((0, "g", 0),)),
+    (1, (), ((0, "A", 0),)), (1, (), ((0, 0, 0),)), (1, (), ((0, None, 0),)), (1, (), ((0, ("a",), 0),)),
+    (1, (), (("0", "a", 0),)), (1, (), ((0, "a", "0"),)), (1, (), nested(18)),
+    (1, (), ((0, "b", 0), (0, "a", 0))), (1, (), ((0, "a", 0), (0, "a", 0))), (2, (), ((0, "a", 0), (0, "a", 1))),
+    (2, (), ((1, "a", 0), (0, "b", 0))), (2, (), ((0, "a", 1), (0, "a", 0))),
+)
+
+EIGHT = tuple(("", letter, 1) for letter in "abcdef") + (("a", "", 1), ("a", "b", 1))
+NO_TABLES = NOTHINGS + (
+    0, 3, "", "abc", ("a", "b", 1), [TABLE], MACHINE, EIGHT + (("b", "a", 1),), EIGHT * 600,
+    # the faults
+    (None,), (3,), ("ab1",), ((),), (("a", "b"),), (("a", "b", 1, 1),), (nested(18),), ((("a", "b", 1),),),
+    # the pieces
+    (("a", "a", 1),), (("", "", 1),), (("ab", "ab", 1),), (("abc", "a", 1),), (("a", "abc", 1),), (("a", "g", 1),),
+    (("A", "a", 1),), (("a", "-", 1),), ((None, "a", 1),), (("a", None, 1),), ((0, "a", 1),), (("a", ("b",), 1),),
+    ((["a"], "b", 1),), (("a", "b\n", 1),),
+    # the prices
+    (("a", "b", 0),), (("a", "b", 10),), (("a", "b", -1),), (("a", "b", True),), (("a", "b", False),),
+    (("a", "b", None),), (("a", "b", "1"),), (("a", "b", (1,)),), (("a", "b", 10 ** 30),),
+    # the order
+    (("b", "a", 1), ("a", "b", 1)), (("a", "b", 1), ("a", "b", 1)), (("a", "b", 1), ("a", "b", 2)),
+    (("a", "c", 1), ("a", "b", 2)), (("b", "a", 1), ("ab", "a", 1)), (("a", "b", 1), ("", "b", 1)),
+    (("a", "b", 2), ("a", "b", 1)),
+)
+
+NO_WORD_LISTS = NOTHINGS + (
+    0, 1, "", "a", "abc", ("a", "a"), ["", ""], ("ab", "a", "ab"), (1,), (None,), (True,), (("a",),), (["a"],), ("g",),
+    ("a", "B"), ("a", "b\n"), ("a", nested(18)), ("", "a", "b", "c", "d", "e", "f", "aa", "ab", "ac", "ad", "ae", "af"),
+    ("a",) * 12, ("a",) * 5000, ("abcdefabcdef", "x"),
+)
+
+# Each function with a good value and wrong values for each of its arguments.
+CALLS = (
+    (tells, (("machine", MACHINE, NO_MACHINES), ("word", "ab", NO_WORDS))),
+    (first_words, (("machine", MACHINE, NO_MACHINES), ("limit", 5, no_integers(0, 50)))),
+    (least_machine, (("machine", MACHINE, NO_MACHINES),)),
+    (machine_of, (("words", ("ab", "a", ""), NO_WORD_LISTS),)),
+    (price, (("table", TABLE, NO_TABLES), ("word", "abc", NO_WORDS), ("text", "bac", NO_WORDS))),
+    (cut, (("table", TABLE, NO_TABLES), ("word", "abc", NO_WORDS), ("text", "bac", NO_WORDS))),
+    (typed, (("table", TABLE, NO_TABLES), ("word", "abc", NO_WORDS + ("abcabca", "a" * 12)),
+             ("most", 3, no_integers(0, 3)))),
+)
+
+
+class WrongArguments(unittest.TestCase):
+    def test_each_argument_wrong_in_turn(self):
+        for function, arguments in CALLS:
+            for at, (name, _, wrongs) in enumerate(arguments):
+                for wrong in wrongs:
+                    for value in forms(wrong) + (wrong,):
+                        given = [good for _, good, _ in arguments]
+                        given[at] = value
+                        with self.subTest(function=function.__name__, argument=name, value=repr(value)[:80]):
+                            self.assertEqual(refused_at(function, *given), at)
+
+    def test_two_or_more_wrong_at_once(self):
+        for function, arguments in CALLS:
+            for bad in itertools.product((False, True), repeat=len(arguments)):
+                for turn in range(7) if any(bad) else ():
+                    given = [
+                        wrongs[turn * 5 % len(wrongs)] if is_bad else good
+                        for is_bad, (_, good, wrongs) in zip(bad, arguments)]
+                    with self.subTest(function=function.__name__, bad=bad):
+                        self.assertEqual(refused_at(function, *given), bad.index(True))
+
+    def test_wrong_arguments_by_name(self):
+        for function, arguments in CALLS:
+            for at, (name, _, wrongs) in enumerate(arguments):
+                named = {other: good for other, good, _ in reversed(arguments)}
+                named[name] = wrongs[0]
+                self.assertEqual(refused_at(function, **named), at)
+
+    def test_bad_value_comes_before_too_many(self):
+        eight = "abcdefab"
+        self.assertEqual(refused_at(machine_of, (eight, "x")), 0)
+        self.assertEqual(refused_at(machine_of, (eight, eight)), 0)
+        with self.assertRaises(TooMany):
+            run(machine_of, (eight,))
+
+    def test_is_machine_and_is_table_take_any_value(self):
+        for wrong in NO_MACHINES:
+            for value in forms(wrong) + (wrong,):
+                with self.subTest(value=repr(value)[:80]):
+                    self.assertIs(run(is_machine, value), False)
+                    self.assertIs(run(is_machine, value=value), False)
+        for wrong in NO_TABLES:
+            for value in forms(wrong) + (wrong,):
+                with self.subTest(value=repr(value)[:80]):
+                    self.assertIs(run(is_table, value), False)
+                    self.assertIs(run(is_table, value=value), False)
+
+    def test_large_values(self):
+        many = list(range(4990))
+        for value in ([1, many, []], [1, [], many], [8, [], [[0, "a", 0]] * 1600], many):
+            self.assertIs(run(is_machine, value), False)
+            self.assertEqual(refused_at(tells, value, "a"), 0)
+            self.assertIs(run(is_table, value), False)
+            self.assertEqual(refused_at(price, value, "a", "a"), 0)
+            self.assertEqual(refused_at(machine_of, value), 0)
+
+
+class GoodArguments(unittest.TestCase):
+    def test_lists_for_tuples_at_every_level(self):
+        for function, arguments in CALLS:
+            expected = run(function, *[good for _, good, _ in arguments])
+            for row in itertools.product(*[forms(good) for _, good, _ in arguments]):
+                self.assertEqual(run(function, *row), expected)
+        for value in forms(MACHINE):
+            self.assertIs(run(is_machine, value), True)
+        for value in forms(TABLE):
+            self.assertIs(run(is_table, value), True)
+
+    def test_by_name(self):
+        for function, arguments in CALLS:
+            expected = run(function, *[good for _, good, _ in arguments])
+            named = {name: good for name, good, _ in reversed(arguments)}
+            self.assertEqual(run(function, **named), expected)
+            first = arguments[0][1]
+            rest = {name: good for name, good, _ in arguments[1:]}
+            self.assertEqual(run(function, first, **rest), expected)
+
+    def test_later_changes_have_no_effect(self):
+        table, machine = as_lists(TABLE), as_lists(MACHINE)
+        words = ["ab", "a"]
+        pieces, least, made = cut(table, "abc", "bac"), least_machine(machine), machine_of(words)
+        before = repr((pieces, least, made))
+        table[3][2] = 9
+        table.clear()
+        machine[2][0][1] = "f"
+        machine[1].append(7)
+        words.append("f")
+        self.assertEqual(repr((pieces, least, made)), before)
+        self.assertTrue(is_plain((pieces, least, made)))
+
+    def test_the_same_call_again(self):
+        for function, arguments in CALLS:
+            given = [as_lists(good) for _, good, _ in arguments]
+            first = run(function, *given)
+            for at, (_, _, wrongs) in enumerate(arguments):
+                self.assertEqual(refused_at(function, *given[:at], wrongs[0], *given[at + 1:]), at)
+            self.assertEqual(run(function, *given), first)
+
+    def test_true_is_not_one(self):
+        self.assertEqual(run(first_words, MACHINE, 1), ("ab",))
+        self.assertEqual(refused_at(first_words, MACHINE, True), 1)
+        self.assertEqual(run(first_words, MACHINE, 0), ())
+        self.assertEqual(refused_at(first_words, MACHINE, False), 1)
+        self.assertEqual(run(typed, (), "a", 1), (("a", 0),))
+        self.assertEqual(refused_at(typed, (), "a", True), 2)
+        self.assertIs(run(is_machine, (1, (0,), ())), True)
+        self.assertIs(run(is_machine, (True, (0,), ())), False)
+        self.assertIs(run(is_table, (("a", "b", 1),)), True)
+        self.assertIs(run(is_table, (("a", "b", True),)), False)
+
+
+if __name__ == "__main__":
+    unittest.main()
