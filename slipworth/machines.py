@@ -45,16 +45,25 @@ def steps_of(moves):
     return {(state, letter): behind for state, letter, behind in moves}
 
 
+def useful_steps(ends, steps):
+    """The steps to states from which some word can still be ended."""
+    live = live_states(ends, steps)
+    return {key: behind for key, behind in steps.items() if behind in live}
+
+
+def walked(steps, state, word):
+    """The state to which the letters of the word lead, None if some letter has no step."""
+    for letter in word:
+        if (state, letter) not in steps:
+            return None
+        state = steps[state, letter]
+    return state
+
+
 def tells(machine, word):
     """Whether the machine tells the word."""
     check_arguments([is_machine(machine), is_word(word)])
-    steps = steps_of(machine[2])
-    state = 0
-    for letter in word:
-        if (state, letter) not in steps:
-            return False
-        state = steps[state, letter]
-    return state in machine[1]
+    return walked(steps_of(machine[2]), 0, word) in machine[1]
 
 
 def first_words(machine, limit):
@@ -134,8 +143,7 @@ def tree_of(words):
 
 def reduced(count, ends, steps):
     """The least machine for any number of states."""
-    live = live_states(ends, steps)
-    useful = {key: behind for key, behind in steps.items() if behind in live}
+    useful = useful_steps(ends, steps)
     return numbered(ends, useful, kinds_of(count, ends, useful))
 
 

@@ -5,7 +5,7 @@ import inspect
 import pathlib
 import unittest
 
-from slipworth import errors, machines, prices
+from slipworth import errors, machines, meanings, mixups, prices, tables
 
 FUNCTIONS = {
     machines: {
@@ -20,6 +20,22 @@ FUNCTIONS = {
         "price": ["table", "word", "text"],
         "cut": ["table", "word", "text"],
         "typed": ["table", "word", "most"],
+    },
+    meanings: {
+        "within": ["table", "machine", "text", "most"],
+        "meant": ["table", "machine", "text", "most"],
+    },
+    mixups: {
+        "is_told": ["table", "machine", "most"],
+        "stands": ["table", "machine", "most"],
+        "stands_hold": ["table", "machine", "most", "value"],
+        "mixup": ["table", "machine", "most"],
+        "strength": ["table", "machine", "limit"],
+    },
+    tables: {
+        "is_alike": ["one", "other"],
+        "unlike": ["one", "other"],
+        "least_table": ["table"],
     },
 }
 ERRORS = {

@@ -5,7 +5,10 @@ import unittest
 
 from slipworth.errors import TooMany
 from slipworth.machines import first_words, is_machine, least_machine, machine_of, tells
+from slipworth.meanings import meant, within
+from slipworth.mixups import is_told, mixup, stands, stands_hold, strength
 from slipworth.prices import cut, is_table, price, typed
+from slipworth.tables import is_alike, least_table, unlike
 from tests.helper import NO_WORDS, NOTHINGS, as_lists, forms, is_plain, nested, no_integers, refused_at, run
 
 MACHINE = (3, (2,), ((0, "a", 1), (1, "b", 2), (2, "a", 2)))
@@ -55,7 +58,9 @@ NO_WORD_LISTS = NOTHINGS + (
     ("a",) * 12, ("a",) * 5000, ("abcdefabcdef", "x"),
 )
 
-# Each function with a good value and wrong values for each of its arguments.
+PROOF = stands(TABLE, MACHINE, 1)
+
+# Each function with a good value and wrong values for each of its arguments, none where any value may be passed.
 CALLS = (
     (tells, (("machine", MACHINE, NO_MACHINES), ("word", "ab", NO_WORDS))),
     (first_words, (("machine", MACHINE, NO_MACHINES), ("limit", 5, no_integers(0, 50)))),
@@ -65,6 +70,19 @@ CALLS = (
     (cut, (("table", TABLE, NO_TABLES), ("word", "abc", NO_WORDS), ("text", "bac", NO_WORDS))),
     (typed, (("table", TABLE, NO_TABLES), ("word", "abc", NO_WORDS + ("abcabca", "a" * 12)),
              ("most", 3, no_integers(0, 3)))),
+    (within, (("table", TABLE, NO_TABLES), ("machine", MACHINE, NO_MACHINES),
+              ("text", "ba", NO_WORDS + ("abcabca", "a" * 16)), ("most", 3, no_integers(0, 3)))),
+    (meant, (("table", TABLE, NO_TABLES), ("machine", MACHINE, NO_MACHINES),
+             ("text", "ba", NO_WORDS + ("abcabca", "a" * 16)), ("most", 3, no_integers(0, 3)))),
+    (is_told, (("table", TABLE, NO_TABLES), ("machine", MACHINE, NO_MACHINES), ("most", 1, no_integers(0, 2)))),
+    (stands, (("table", TABLE, NO_TABLES), ("machine", MACHINE, NO_MACHINES), ("most", 1, no_integers(0, 2)))),
+    (stands_hold, (("table", TABLE, NO_TABLES), ("machine", MACHINE, NO_MACHINES), ("most", 1, no_integers(0, 2)),
+                   ("value", PROOF, ()))),
+    (mixup, (("table", TABLE, NO_TABLES), ("machine", MACHINE, NO_MACHINES), ("most", 2, no_integers(0, 2)))),
+    (strength, (("table", TABLE, NO_TABLES), ("machine", MACHINE, NO_MACHINES), ("limit", 2, no_integers(0, 2)))),
+    (is_alike, (("one", TABLE, NO_TABLES), ("other", EIGHT, NO_TABLES))),
+    (unlike, (("one", TABLE, NO_TABLES), ("other", EIGHT, NO_TABLES))),
+    (least_table, (("table", TABLE, NO_TABLES),)),
 )
 
 
@@ -81,7 +99,7 @@ class WrongArguments(unittest.TestCase):
 
     def test_two_or_more_wrong_at_once(self):
         for function, arguments in CALLS:
-            for bad in itertools.product((False, True), repeat=len(arguments)):
+            for bad in itertools.product(*[(False, True) if wrongs else (False,) for _, _, wrongs in arguments]):
                 for turn in range(7) if any(bad) else ():
                     given = [
                         wrongs[turn * 5 % len(wrongs)] if is_bad else good
@@ -92,9 +110,10 @@ class WrongArguments(unittest.TestCase):
     def test_wrong_arguments_by_name(self):
         for function, arguments in CALLS:
             for at, (name, _, wrongs) in enumerate(arguments):
-                named = {other: good for other, good, _ in reversed(arguments)}
-                named[name] = wrongs[0]
-                self.assertEqual(refused_at(function, **named), at)
+                for wrong in wrongs[:1]:
+                    named = {other: good for other, good, _ in reversed(arguments)}
+                    named[name] = wrong
+                    self.assertEqual(refused_at(function, **named), at)
 
     def test_bad_value_comes_before_too_many(self):
         eight = "abcdefab"
@@ -148,22 +167,26 @@ class GoodArguments(unittest.TestCase):
     def test_later_changes_have_no_effect(self):
         table, machine = as_lists(TABLE), as_lists(MACHINE)
         words = ["ab", "a"]
-        pieces, least, made = cut(table, "abc", "bac"), least_machine(machine), machine_of(words)
-        before = repr((pieces, least, made))
+        found = (
+            cut(table, "abc", "bac"), least_machine(machine), machine_of(words), within(table, machine, "ba", 3),
+            meant(table, machine, "ba", 3), stands(table, machine, 1), mixup(table, machine, 2), unlike(table, []),
+            least_table(table))
+        before = repr(found)
         table[3][2] = 9
         table.clear()
         machine[2][0][1] = "f"
         machine[1].append(7)
         words.append("f")
-        self.assertEqual(repr((pieces, least, made)), before)
-        self.assertTrue(is_plain((pieces, least, made)))
+        self.assertEqual(repr(found), before)
+        self.assertTrue(is_plain(found))
 
     def test_the_same_call_again(self):
         for function, arguments in CALLS:
             given = [as_lists(good) for _, good, _ in arguments]
             first = run(function, *given)
             for at, (_, _, wrongs) in enumerate(arguments):
-                self.assertEqual(refused_at(function, *given[:at], wrongs[0], *given[at + 1:]), at)
+                for wrong in wrongs[:1]:
+                    self.assertEqual(refused_at(function, *given[:at], wrong, *given[at + 1:]), at)
             self.assertEqual(run(function, *given), first)
 
     def test_true_is_not_one(self):
@@ -173,6 +196,12 @@ class GoodArguments(unittest.TestCase):
         self.assertEqual(refused_at(first_words, MACHINE, False), 1)
         self.assertEqual(run(typed, (), "a", 1), (("a", 0),))
         self.assertEqual(refused_at(typed, (), "a", True), 2)
+        for function in (is_told, stands, mixup, strength):
+            self.assertIsNone(refused_at(function, TABLE, MACHINE, 1))
+            self.assertEqual(refused_at(function, TABLE, MACHINE, True), 2)
+        self.assertIs(run(stands_hold, (), (1, (), ()), 0, [[[0, "", 0], [0, "", 0], "", "", False]]), True)
+        self.assertIs(run(stands_hold, (), (1, (), ()), 0, [[[0, "", 0], [0, "", 0], "", "", 0]]), False)
+        self.assertIs(run(stands_hold, (), (1, (), ()), 0, [[[False, "", 0], [0, "", 0], "", "", False]]), False)
         self.assertIs(run(is_machine, (1, (0,), ())), True)
         self.assertIs(run(is_machine, (True, (0,), ())), False)
         self.assertIs(run(is_table, (("a", "b", 1),)), True)
