@@ -1,8 +1,9 @@
-"""What counts as an integer, a sequence, a word; how arguments are refused."""
+"""What counts as an integer, a sequence, a word; how arguments are refused; how lines are read and written."""
 
 from slipworth.errors import BadValue
 
 LETTERS = "abcdef"
+NOTHING = "-"
 
 
 def check_arguments(fits):
@@ -33,6 +34,41 @@ def is_word(value):
     return isinstance(value, str) and all([letter in LETTERS for letter in value])
 
 
+def is_short(value, most):
+    """Whether value is a string of at most so many letters."""
+    return is_word(value) and len(value) <= most
+
+
+def are_words(value, least, most):
+    """Whether value is a sequence of different words, from least to most of them."""
+    if not is_sequence(value) or not least <= len(value) <= most:
+        return False
+    return all([is_word(word) for word in value]) and len(set(value)) == len(value)
+
+
 def is_rising(rows):
     """Whether each thing in the list is less than the next one."""
     return all([rows[at] < rows[at + 1] for at in range(len(rows) - 1)])
+
+
+def rank(word):
+    """What words and texts are ordered by."""
+    return (len(word), word)
+
+
+def lines_of(text):
+    """What stands ahead of each line feed, and what stands behind the last one unless it is empty."""
+    lines = text.split("\n")
+    return lines if lines[-1] else lines[:-1]
+
+
+def shown(text):
+    """The text as it is written in a line, where it may not be empty."""
+    return text if text else NOTHING
+
+
+def text_shown(word):
+    """The text that is written so in a line, None if there is none."""
+    if word == NOTHING:
+        return ""
+    return word if word and is_word(word) else None

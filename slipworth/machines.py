@@ -1,6 +1,6 @@
 """Machines: which words they tell, and the least machine that tells the same words."""
 
-from slipworth.checks import LETTERS, check_arguments, is_rising, is_sequence, is_triple, is_whole, is_word
+from slipworth.checks import LETTERS, are_words, check_arguments, is_rising, is_sequence, is_triple, is_whole, is_word
 from slipworth.errors import TooMany
 
 MOST_STATES = 8
@@ -107,7 +107,7 @@ def least_machine(machine):
 
 def machine_of(words):
     """The least machine that tells just these words."""
-    check_arguments([are_words(words)])
+    check_arguments([are_words(words, 0, MOST_WORDS)])
     # Along a word each state is another one, otherwise endlessly many words would be told.
     if any([len(word) >= MOST_STATES for word in words]):
         raise TooMany()
@@ -116,13 +116,6 @@ def machine_of(words):
     if machine[0] > MOST_STATES:
         raise TooMany()
     return machine
-
-
-def are_words(value):
-    """Whether value is a sequence of at most twelve different words."""
-    if not is_sequence(value) or len(value) > MOST_WORDS:
-        return False
-    return all([is_word(word) for word in value]) and len(set(value)) == len(value)
 
 
 def tree_of(words):

@@ -2,7 +2,7 @@
 
 from heapq import heappop, heappush
 
-from slipworth.checks import check_arguments, is_whole, is_word
+from slipworth.checks import check_arguments, is_short, is_whole
 from slipworth.machines import is_machine, steps_of, useful_steps, walked
 from slipworth.prices import GREATEST_PRICE, MOST_IN_WORD, is_table, pieces_along
 
@@ -25,8 +25,8 @@ def meant(table, machine, text, most):
 
 def check_question(table, machine, text, most):
     """Refuse what is no table, no machine, no text or no price."""
-    short = is_word(text) and len(text) <= MOST_IN_WORD
-    check_arguments([is_table(table), is_machine(machine), short, is_whole(most, 0, GREATEST_PRICE)])
+    fits = [is_table(table), is_machine(machine), is_short(text, MOST_IN_WORD), is_whole(most, 0, GREATEST_PRICE)]
+    check_arguments(fits)
 
 
 def words_for(table, machine, text, most, many):

@@ -1,6 +1,6 @@
 """Mixups: texts that two different words have, and stands that show that there are none."""
 
-from slipworth.checks import LETTERS, check_arguments, is_sequence, is_triple, is_whole, is_word
+from slipworth.checks import LETTERS, check_arguments, is_sequence, is_short, is_triple, is_whole
 from slipworth.machines import is_machine, steps_of, useful_steps, walked
 from slipworth.meanings import words_for
 from slipworth.prices import is_table
@@ -81,11 +81,6 @@ def is_run(value, count, most):
         return False
     state, rest, total = value
     return is_whole(state, 0, count - 1) and is_short(rest, 1) and is_whole(total, 0, most)
-
-
-def is_short(value, most):
-    """Whether value is a string of at most so many letters."""
-    return is_word(value) and len(value) <= most
 
 
 def is_end(stand, ends):

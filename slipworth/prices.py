@@ -2,7 +2,7 @@
 
 from heapq import heappop, heappush
 
-from slipworth.checks import check_arguments, is_rising, is_sequence, is_triple, is_whole, is_word
+from slipworth.checks import check_arguments, is_rising, is_sequence, is_short, is_triple, is_whole, is_word
 
 MOST_FAULTS = 8
 MOST_IN_PIECE = 2
@@ -32,7 +32,7 @@ def is_fault(value):
 
 def is_piece(value):
     """Whether value is a string of at most two letters."""
-    return is_word(value) and len(value) <= MOST_IN_PIECE
+    return is_short(value, MOST_IN_PIECE)
 
 
 def price(table, word, text):
@@ -61,20 +61,30 @@ def cut(table, word, text):
 
 def typed(table, word, most):
     """The pairs (text, price) of all texts with a price of at most most from the word."""
-    short = is_word(word) and len(word) <= MOST_IN_WORD
-    check_arguments([is_table(table), short, is_whole(most, 0, GREATEST_PRICE)])
-    pieces = pieces_along(table, word)
-    best = {}
-    queue = [(0, 0, "")]
-    while queue:
-        total, at, text = heappop(queue)
-        if (at, text) not in best:
-            best[at, text] = total
-            for meant, written, cost in pieces[at]:
-                if total + cost <= most:
-                    heappush(queue, (total + cost, at + len(meant), text + written))
-    found = [(text, total) for (at, text), total in best.items() if at == len(word)]
+    check_arguments([is_table(table), is_short(word, MOST_IN_WORD), is_whole(most, 0, GREATEST_PRICE)])
+    found = list(texts_within(table, word, most).items())
     return tuple(sorted(found, key=lambda row: (row[1], len(row[0]), row[0])))
+
+
+def texts_within(table, word, most):
+    """All texts with a price of at most most from the word, each with its price."""
+    pieces = pieces_along(table, word)
+    # best[at] has the texts of what the word is from this place on, fresh those of each price alone.
+    best = [{} for _ in pieces]
+    best[-1][""] = 0
+    fresh = {(0, len(word)): [""]}
+    for total in range(most + 1):
+        # A letter kept is free, but leads to a later place: so later places come first.
+        for at in reversed(range(len(pieces))):
+            longer = [
+                written + text
+                for meant, written, cost in pieces[at]
+                for text in fresh.get((total - cost, at + len(meant)), [])
+            ]
+            added = {text: total for text in longer if text not in best[at]}
+            best[at].update(added)
+            fresh[total, at] = fresh.get((total, at), []) + list(added)
+    return best[0]
 
 
 def pieces_along(table, word):
