@@ -5,7 +5,7 @@ import inspect
 import pathlib
 import unittest
 
-from slipworth import errors, machines, meanings, mixups, prices, tables
+from slipworth import errors, machines, marking, meanings, mixups, prices, spellers, tables, texts
 
 FUNCTIONS = {
     machines: {
@@ -37,7 +37,21 @@ FUNCTIONS = {
         "unlike": ["one", "other"],
         "least_table": ["table"],
     },
+    marking: {
+        "shared": ["table", "one", "other", "most"],
+        "sharing": ["table", "words", "most"],
+        "marks": ["table", "words", "most"],
+        "paper": ["table", "words", "most"],
+        "paper_holds": ["table", "words", "most", "count", "text"],
+    },
+    texts: {
+        "printed": ["table"],
+        "parse": ["text"],
+    },
 }
+METHODS = {
+    "__init__": ["table", "most"], "put": ["word"], "take": ["word"], "words": [], "read": ["text"],
+    "retable": ["table"], "__contains__": None, "__len__": []}
 ERRORS = {
     "BadValue": ["at"], "BadText": ["at"], "BadPaper": ["at"], "NotMeant": ["text"], "NoWord": ["word"],
     "Mixed": ["word", "text"]}
@@ -50,11 +64,24 @@ class Interface(unittest.TestCase):
                 function = getattr(module, name)
                 self.assertTrue(inspect.isfunction(function))
                 self.assertEqual(function.__module__, module.__name__)
-                parameters = inspect.signature(function).parameters
-                self.assertEqual(list(parameters), arguments)
-                for parameter in parameters.values():
-                    self.assertEqual(parameter.kind, parameter.POSITIONAL_OR_KEYWORD)
-                    self.assertIs(parameter.default, parameter.empty)
+                self.check_parameters(function, arguments)
+
+    def check_parameters(self, function, arguments):
+        parameters = inspect.signature(function).parameters
+        self.assertEqual(list(parameters), arguments)
+        for parameter in parameters.values():
+            self.assertEqual(parameter.kind, parameter.POSITIONAL_OR_KEYWORD)
+            self.assertIs(parameter.default, parameter.empty)
+
+    def test_the_class(self):
+        self.assertTrue(inspect.isclass(spellers.Speller))
+        self.assertEqual(spellers.Speller.__module__, "slipworth.spellers")
+        self.check_parameters(spellers.Speller, ["table", "most"])
+        for name, arguments in METHODS.items():
+            method = vars(spellers.Speller)[name]
+            self.assertTrue(inspect.isfunction(method))
+            if arguments is not None:
+                self.check_parameters(method, ["self"] + arguments)
 
     def test_errors(self):
         for name, arguments in ERRORS.items():

@@ -106,6 +106,38 @@ class Language(unittest.TestCase):
         # doctest, as the console, leaves a builtin _ behind.
         self.assertEqual(bound & set(dir(builtins)) - {"_"}, set())
 
+    def test_names_of_classes_and_imports_mean_one_thing(self):
+        for path, tree in self.trees.items():
+            taken = {node.name for node in tree.body if isinstance(node, ast.ClassDef)}
+            for node in tree.body:
+                taken |= {alias.name for alias in node.names} if isinstance(node, ast.ImportFrom) else set()
+            for node in ast.walk(tree):
+                if isinstance(node, ast.arg):
+                    self.assertNotIn(node.arg, taken, path.name)
+                if isinstance(node, ast.Name) and isinstance(node.ctx, ast.Store):
+                    self.assertNotIn(node.id, taken, path.name)
+
+    def test_imports_are_used_and_do_not_go_round(self):
+        ahead = {}
+        for path, tree in self.trees.items():
+            used = {node.id for node in ast.walk(tree) if isinstance(node, ast.Name)}
+            imports = [node for node in tree.body if isinstance(node, ast.ImportFrom)]
+            for node in imports:
+                self.assertLessEqual({alias.name for alias in node.names}, used, path.name)
+            ahead[f"slipworth.{path.stem}"] = [node.module for node in imports if node.module not in LIBRARY]
+        while ahead:
+            ready = [name for name, modules in ahead.items() if not set(modules) & set(ahead)]
+            self.assertNotEqual(ready, [])
+            ahead = {name: modules for name, modules in ahead.items() if name not in ready}
+
+    def test_methods_and_attributes_have_different_names(self):
+        methods = {
+            part.name for node, _ in self.nodes(ast.ClassDef) for part in node.body if isinstance(part, ast.FunctionDef)}
+        attributes = {
+            node.attr for node, _ in self.nodes(ast.Attribute) if isinstance(node.ctx, ast.Store)}
+        self.assertEqual(methods & attributes, set())
+        self.assertEqual(attributes & set(METHODS) - {"count", "index", "title", "find", "get", "join", "lower"}, set())
+
     def test_methods(self):
         own = {node.name for node, _ in self.nodes(ast.FunctionDef)}
         for node, place in self.nodes(ast.Call):

@@ -3,12 +3,15 @@
 import itertools
 import unittest
 
-from slipworth.errors import TooMany
+from slipworth.errors import BadPaper, BadText, NotMeant, NoWord, TooMany
 from slipworth.machines import first_words, is_machine, least_machine, machine_of, tells
+from slipworth.marking import marks, paper, paper_holds, shared, sharing
 from slipworth.meanings import meant, within
 from slipworth.mixups import is_told, mixup, stands, stands_hold, strength
 from slipworth.prices import cut, is_table, price, typed
+from slipworth.spellers import Speller
 from slipworth.tables import is_alike, least_table, unlike
+from slipworth.texts import parse, printed
 from tests.helper import NO_WORDS, NOTHINGS, as_lists, forms, is_plain, nested, no_integers, refused_at, run
 
 MACHINE = (3, (2,), ((0, "a", 1), (1, "b", 2), (2, "a", 2)))
@@ -58,7 +61,23 @@ NO_WORD_LISTS = NOTHINGS + (
     ("a",) * 12, ("a",) * 5000, ("abcdefabcdef", "x"),
 )
 
+NO_MARKED = NOTHINGS + (
+    0, 1, "", "a", "abc", (), [], ("a", "a"), ["", ""], ("ab", "a", "ab"), (1,), (None,), (True,), (("a",),), (["a"],),
+    ("g",), ("a", "B"), ("a", "b\n"), ("a", nested(18)), ("", "a", "b", "c", "d", "e", "f", "aa"), ("abcdefa",),
+    ("a", "aaaaaaa"), ("a" * 12, "b"), ("a",) * 7, ("a",) * 5000, TABLE, MACHINE)
+NO_SHORT = NO_WORDS + ("abcabca", "a" * 12)
+
 PROOF = stands(TABLE, MACHINE, 1)
+WORDS = ("ab", "aba", "ba", "c")
+PAPER = paper(TABLE, WORDS, 2)
+SPELLER = Speller(TABLE, 2)
+SPELLER.put("ab")
+
+
+def made(*given, **named):
+    """The words of a new speller, as a speller itself is no plain value."""
+    return Speller(*given, **named).words()
+
 
 # Each function with a good value and wrong values for each of its arguments, none where any value may be passed.
 CALLS = (
@@ -83,6 +102,18 @@ CALLS = (
     (is_alike, (("one", TABLE, NO_TABLES), ("other", EIGHT, NO_TABLES))),
     (unlike, (("one", TABLE, NO_TABLES), ("other", EIGHT, NO_TABLES))),
     (least_table, (("table", TABLE, NO_TABLES),)),
+    (shared, (("table", TABLE, NO_TABLES), ("one", "ab", NO_SHORT), ("other", "aba", NO_SHORT),
+              ("most", 2, no_integers(0, 3)))),
+    (sharing, (("table", TABLE, NO_TABLES), ("words", WORDS, NO_MARKED), ("most", 2, no_integers(0, 3)))),
+    (marks, (("table", TABLE, NO_TABLES), ("words", WORDS, NO_MARKED), ("most", 2, no_integers(0, 3)))),
+    (paper, (("table", TABLE, NO_TABLES), ("words", WORDS, NO_MARKED), ("most", 2, no_integers(0, 3)))),
+    (paper_holds, (("table", TABLE, NO_TABLES), ("words", WORDS, NO_MARKED), ("most", 2, no_integers(0, 3)),
+                   ("count", 2, no_integers(0, 7)), ("text", PAPER, ()))),
+    (made, (("table", TABLE, NO_TABLES), ("most", 2, no_integers(0, 3)))),
+    (SPELLER.put, (("word", "c", NO_SHORT),)),
+    (SPELLER.read, (("text", "ba", NO_WORDS),)),
+    (SPELLER.retable, (("table", TABLE, NO_TABLES),)),
+    (printed, (("table", TABLE, NO_TABLES),)),
 )
 
 
@@ -144,6 +175,32 @@ class WrongArguments(unittest.TestCase):
             self.assertEqual(refused_at(machine_of, value), 0)
 
 
+    def test_values_for_which_no_bad_value_is_told(self):
+        for wrong in NOTHINGS + (0, (), [], ["a"], ("give 0",), ["- > a 1"]):
+            for value in forms(wrong) + (wrong,):
+                with self.subTest(value=repr(value)[:80]):
+                    for count in (0, 2, 7):
+                        with self.assertRaises(BadPaper) as caught:
+                            run(paper_holds, TABLE, WORDS, 2, count, value)
+                        self.assertEqual(caught.exception.at, 0)
+                    with self.assertRaises(BadText) as caught:
+                        run(parse, value)
+                    self.assertEqual(caught.exception.at, 0)
+                    with self.assertRaises(NoWord) as caught:
+                        run(SPELLER.take, value)
+                    self.assertIs(caught.exception.word, value)
+                    self.assertIs(value in SPELLER, False)
+
+    def test_the_errors_of_a_speller_come_behind_bad_values(self):
+        speller = Speller(TABLE, 2)
+        speller.put("ab")
+        self.assertEqual(refused_at(speller.put, "abababa"), 0)
+        self.assertEqual(refused_at(speller.read, "g"), 0)
+        self.assertEqual(refused_at(speller.retable, TABLE[::-1]), 0)
+        with self.assertRaises(NotMeant):
+            run(speller.read, "ccccccccccccccccccccccc")
+
+
 class GoodArguments(unittest.TestCase):
     def test_lists_for_tuples_at_every_level(self):
         for function, arguments in CALLS:
@@ -170,7 +227,8 @@ class GoodArguments(unittest.TestCase):
         found = (
             cut(table, "abc", "bac"), least_machine(machine), machine_of(words), within(table, machine, "ba", 3),
             meant(table, machine, "ba", 3), stands(table, machine, 1), mixup(table, machine, 2), unlike(table, []),
-            least_table(table))
+            least_table(table), shared(table, "ab", "a", 3), sharing(table, words, 3), marks(table, words, 3),
+            paper(table, words, 3), printed(table), parse(printed(table)))
         before = repr(found)
         table[3][2] = 9
         table.clear()
@@ -196,6 +254,14 @@ class GoodArguments(unittest.TestCase):
         self.assertEqual(refused_at(first_words, MACHINE, False), 1)
         self.assertEqual(run(typed, (), "a", 1), (("a", 0),))
         self.assertEqual(refused_at(typed, (), "a", True), 2)
+        for function in (sharing, marks, paper):
+            for number in (0, 1):
+                self.assertIsNone(refused_at(function, TABLE, WORDS, number))
+                self.assertEqual(refused_at(function, TABLE, WORDS, bool(number)), 2)
+        self.assertEqual(refused_at(shared, TABLE, "a", "b", True), 3)
+        self.assertIs(run(paper_holds, (), ("a",), 0, 0, "give 0"), True)
+        self.assertEqual(refused_at(paper_holds, (), ("a",), 0, False, "give 0"), 3)
+        self.assertEqual(refused_at(made, TABLE, False), 1)
         for function in (is_told, stands, mixup, strength):
             self.assertIsNone(refused_at(function, TABLE, MACHINE, 1))
             self.assertEqual(refused_at(function, TABLE, MACHINE, True), 2)
